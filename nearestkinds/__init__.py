@@ -1,0 +1,1 @@
+"""Generic definitions whose nearest row is chosen, and that reckon while a program is made."""
