@@ -67,3 +67,19 @@ def are_same(one, other):
             return False
         todo.extend(list(zip(things_within(part), things_within(thing))))
     return True
+
+
+def depth(bundle):
+    """How deep a bundle is: as deep as its deepest thing."""
+    deepest = 0
+    todo = [(1, thing) for thing in bundle]
+    while todo:
+        deep, part = todo.pop()
+        deepest = max(deepest, deep)
+        todo.extend([(deep + 1, inner) for inner in things_within(part)])
+    return deepest
+
+
+def is_new(part):
+    """Whether a part of a bundle is a new kind."""
+    return type(part) is tuple and part[0] == "~"

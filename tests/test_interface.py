@@ -3,13 +3,18 @@
 import inspect
 import unittest
 
-from nearestkinds import patterns, things
+from nearestkinds import cases, demands, patterns, tables, things
 
 INTERFACE = {
     things: {"Book": ["lists", "heads", "claims"], "is_bundle": ["book", "sorts", "thing"],
              "is_use": ["book", "sorts", "thing"]},
     patterns: {"filled": ["bundle", "filling"], "plain": ["bundle"], "common": ["one", "other"],
                "matched": ["bundle", "other"], "meet": ["one", "other"]},
+    demands: {"is_facts": ["book", "thing"], "holds": ["demand", "filling", "facts"], "implied": ["one", "other"],
+              "neat": ["demand"]},
+    tables: {"Table": ["book", "sorts", "rows"], "meeting": ["table", "use", "facts"],
+             "nearest": ["table", "use", "facts"], "nearer": ["table", "one", "other"]},
+    cases: {"meets": ["table"], "cases": ["table"], "case_of": ["table", "use", "facts"]},
 }
 
 
@@ -23,9 +28,11 @@ class InterfaceTest(unittest.TestCase):
                     self.assertEqual(list(inspect.signature(thing).parameters), arguments)
 
     def test_methods_stand_in_the_class_itself(self):
-        for name in ("__init__", "__eq__"):
-            self.assertIn(name, vars(things.Book))
+        for kind in (things.Book, tables.Table):
+            for name in ("__init__", "__eq__"):
+                self.assertIn(name, vars(kind))
 
     def test_the_attributes_are_those_of_the_interface(self):
         book = things.Book((), (), ())
         self.assertEqual(vars(book), {"lists": (), "heads": (), "claims": ()})
+        self.assertEqual(vars(tables.Table(book, ("kind",), ())), {"book": book, "sorts": ("kind",), "rows": ()})
