@@ -89,7 +89,10 @@ def claims_within(demand):
 
 def is_told(fact, facts):
     """Whether a fact is one of the facts."""
-    return any([fact[0] == name and are_same(fact[1], kind) for name, kind in facts])
+    for name, kind in facts:
+        if fact[0] == name and are_same(fact[1], kind):
+            return True
+    return False
 
 
 def joined(lots, others):

@@ -59,6 +59,11 @@ def nearness(rows, lot):
     return {(one, other): True for one in lot for other in lot if is_nearer(rows[one], rows[other])}
 
 
+def nearness_of_all(rows):
+    """The nearness of all the rows."""
+    return nearness(rows, list(range(len(rows))))
+
+
 def least(near, lot):
     """The list of the rows of a lot than which no other one of it is nearer, by their nearness."""
     return [one for one in lot if not any([(other, one) in near for other in lot])]

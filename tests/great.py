@@ -28,6 +28,7 @@ FIVES = tri(tri(A, A, A), A, A)
 PARTS_200 = ((A, FIVES, FIVES, pair(A, A)), (FIFTEEN, A, B, C))
 PARTS_201 = ((A, FIVES, FIVES, pair(ptr(A), A)), (FIFTEEN, A, B, C))
 
+# Of the rows for these sorts each is for one number, so that no use is met by two, but for rows with like patterns.
 SORTS_OF_CASES = ("flag", "kind", "number")
 
 
@@ -45,11 +46,13 @@ def demand(some):
 
 
 def cases_2000():
-    """Nine rows, two of them with like patterns, of 2 * (1 + 512 + 256 + 128 + 64 + 32 + 4 + 2 + 1) cases."""
+    """Nine rows, two of them with like patterns, of 2 * (1 + 512 + 256 + 128 + 64 + 32 + 4 + 2 + 1) cases; clear."""
     rows = []
     for k, many in enumerate([9, 8, 7, 6, 5, 2, 1, 0]):
         rows.append((LETTERS[k], (A, tri(*[("?", n) for n in (1, 2, 3)]), k), demand(claims(many)[-8:])))
-    rows.append(("more", rows[0][1], claims(9)[0]))
+    # The first row's demand asks for one of its first four claims and one of its last four.
+    some = claims(9)
+    rows.append(("more", rows[0][1], both(both(some[1], some[5]), some[0])))
     return tuple(rows)
 
 

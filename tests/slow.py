@@ -1,11 +1,12 @@
 """A book, tables by chance, and slow but plain ways of reckoning with tables that several tests share."""
 
+import functools
 import itertools
 
 from nearestkinds.errors import BadTable
 from nearestkinds.tables import Table
 from nearestkinds.things import Book
-from tests.samples import is_instance, renamed, slow_match, slow_meet, slow_plain
+from tests.samples import is_instance, renamed, slow_bundle, slow_match, slow_meet, slow_plain
 
 DESK = Book(
     (("flag", ("yes", "no")), ("size", ("small", "middle", "large"))),
@@ -108,6 +109,7 @@ def slow_meets_row(row, use, facts):
     return slow_holds(row[2], {pair for pair in claims_of(row[2]) if (pair[0], found[pair[1]]) in facts})
 
 
+@functools.cache
 def slow_nearer(row, other):
     """Whether a row is nearer than another one, by all facts there may be about the unknowns."""
     one, two = is_instance(row[1], other[1]), is_instance(other[1], row[1])
@@ -143,6 +145,12 @@ def agree(one, other):
 
 def slow_meets(first, rows):
     """The meets of a plain bundle with the patterns of each lot of rows, each once, ascending by texts."""
+    return list(kept_meets(first, tuple(rows)))
+
+
+@functools.cache
+def kept_meets(first, rows):
+    """What slow_meets tells, reckoned once."""
     found = {}
     for lot in lots_of(rows):
         bundle = first
@@ -150,7 +158,7 @@ def slow_meets(first, rows):
             bundle = None if bundle is None else slow_meet(bundle, row[1])
         if bundle is not None:
             found[text(bundle)] = bundle
-    return [found[each] for each in sorted(found)]
+    return tuple(found[each] for each in sorted(found))
 
 
 def top(sorts):
@@ -217,6 +225,15 @@ def wish_cases(one, wish):
 def becomes(wish, use, facts):
     """Whether a wish may become a use by facts."""
     return slow_meets_row(("wish", *wish), use, facts)
+
+
+def is_pair(one, thing):
+    """Whether a thing is a pair of a use and facts of a table."""
+    if type(thing) is not tuple or len(thing) != 2 or "?" in repr(thing) or type(thing[1]) is not tuple:
+        return False
+    facts = all(type(fact) is tuple and len(fact) == 2 and type(fact[0]) is str and fact[0] in one.book.claims
+                and slow_bundle(one.book, KIND, fact[1:]) for fact in thing[1])
+    return facts and slow_bundle(one.book, one.sorts, thing[0])
 
 
 SORTS = [KIND, KIND, ("kind", "kind"), ("kind", "flag"), ("number", "kind"), ("flag", "kind", "number"),

@@ -148,6 +148,10 @@ class HoldsTest(unittest.TestCase):
         self.assertIs(holds(EVEN[0], {0: INT}, (("even", ptr(INT)),)), False)
         self.assertIs(holds(EVEN[0], {0: new(1)}, (("even", new(0)), ("even", new(10)))), False)
 
+    def test_unknowns_for_which_nothing_is_put(self):
+        self.assertIs(holds(EVEN[1], {0: INT}, (("even", INT),)), False)
+        self.assertIs(holds(either(EVEN[1], EVEN[0]), {0: INT}, (("even", INT),)), True)
+
     def test_one_kind_for_two_unknowns(self):
         self.assertIs(holds(both(EVEN[0], EVEN[1]), {0: INT, 1: INT}, (("even", INT),)), True)
         self.assertIs(holds(both(EVEN[0], EVEN[1]), {0: INT, 1: new(3)}, (("even", INT),)), False)

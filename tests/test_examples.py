@@ -4,14 +4,18 @@ import pathlib
 import unittest
 
 from nearestkinds.cases import cases
+from nearestkinds.clear import missing
 from nearestkinds.demands import neat
+from nearestkinds.early import early
 from nearestkinds.patterns import common, meet
 from nearestkinds.tables import Table, meeting, nearest
 from nearestkinds.things import Book
+from nearestkinds.views import view
 
 b = Book((("flag", ("yes", "no")),), (("int", ()), ("ptr", ("kind",)), ("pair", ("kind", "kind"))), ("small",))
 t = Table(b, ("kind",), (("any", (("?", 0),), None), ("ptr", (("ptr", ("?", 0)),), None),
                          ("best", (("ptr", ("int",)),), None)))
+u = Table(b, ("kind", "kind"), (("one", (("int",), ("?", 0)), None), ("two", (("?", 0), ("int",)), None)))
 
 
 class ExamplesTest(unittest.TestCase):
@@ -23,8 +27,16 @@ class ExamplesTest(unittest.TestCase):
         self.assertEqual(meet((("?", 0), ("int",)), (("int",), ("?", 0))), (("int",), ("int",)))
         self.assertEqual(common((("ptr", ("int",)),), (("ptr", ("ptr", ("int",))),)), (("ptr", ("?", 0)),))
 
+    def test_e03(self):
+        self.assertEqual(missing(u), [(("int",), ("int",))])
+        self.assertEqual(missing(t), [])
+
     def test_e04(self):
         self.assertEqual(cases(t), [((("~", 0),), ()), ((("ptr", ("~", 0)),), ()), ((("ptr", ("int",)),), ())])
+
+    def test_e05(self):
+        self.assertEqual(view(t, ((("ptr", ("?", 0)),), None)), (1, 2))
+        self.assertEqual(early(t, ((("ptr", ("ptr", ("?", 0))),), None)), ("row", "ptr"))
 
     def test_e06(self):
         demand = ("both", ("claim", "small", 1), ("either", ("claim", "small", 0), ("claim", "small", 1)))

@@ -3,7 +3,7 @@
 import inspect
 import unittest
 
-from nearestkinds import cases, demands, patterns, tables, things
+from nearestkinds import alike, cases, clear, demands, early, patterns, tables, things, views
 
 INTERFACE = {
     things: {"Book": ["lists", "heads", "claims"], "is_bundle": ["book", "sorts", "thing"],
@@ -15,6 +15,12 @@ INTERFACE = {
     tables: {"Table": ["book", "sorts", "rows"], "meeting": ["table", "use", "facts"],
              "nearest": ["table", "use", "facts"], "nearer": ["table", "one", "other"]},
     cases: {"meets": ["table"], "cases": ["table"], "case_of": ["table", "use", "facts"]},
+    clear: {"unclear": ["table"], "place_of": ["table", "row"], "is_unclear": ["table", "thing"],
+            "is_place": ["table", "row", "thing"], "missing": ["table"], "dead": ["table"]},
+    alike: {"unlike": ["one", "other"], "is_unlike": ["one", "other", "thing"]},
+    views: {"is_wish": ["table", "thing"], "is_parting": ["table", "seen", "wish", "thing"],
+            "parting": ["table", "seen", "wish"], "view": ["table", "wish"]},
+    early: {"early": ["table", "wish"], "two": ["table", "wish"], "is_two": ["table", "wish", "thing"]},
 }
 
 

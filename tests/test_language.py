@@ -45,6 +45,14 @@ def walk(kind):
                 yield f"{path.name}:{getattr(node, 'lineno', 0)}", path, node
 
 
+def parents(kind):
+    """All nodes of a kind, behind their place and the node around them."""
+    for place, _, parent in walk(ast.AST):
+        for node in ast.iter_child_nodes(parent):
+            if isinstance(node, kind):
+                yield place, parent, node
+
+
 def bound_names():
     """All names that the package gives to something, where each stands."""
     for place, _, node in walk((ast.FunctionDef, ast.ClassDef, ast.arg, ast.Name)):
@@ -159,6 +167,29 @@ class LanguageTest(unittest.TestCase):
                 self.assertIn(node.func.attr, METHODS | own_methods() | {"__init__"}, place)
         for place, _, node in walk(ast.Attribute):
             self.assertNotIn(node.attr, BARRED, place)
+
+    def test_iterated_at_once(self):
+        """L23: what only can be gone over is gone over where it stands."""
+        for place, parent, node in parents(ast.Call):
+            name = getattr(node.func, "id", getattr(node.func, "attr", ""))
+            if name in ("zip", "enumerate", "reversed", "range", "items", "keys", "values", "combinations", "product"):
+                over = isinstance(parent, (ast.For, ast.comprehension)) and parent.iter is node
+                first = isinstance(parent, ast.Call) and parent.args[:1] == [node]
+                goes = ("list", "tuple", "dict", "sorted", "sum", "enumerate")
+                self.assertTrue(over or first and getattr(parent.func, "id", "") in goes, place)
+
+    def test_sets(self):
+        """L24: sets are sorted, counted or compared where they stand."""
+        for place, parent, node in parents((ast.Call, ast.Set, ast.SetComp)):
+            if not isinstance(node, ast.Call) or getattr(node.func, "id", "") in ("set", "frozenset"):
+                named = isinstance(parent, ast.Call) and getattr(parent.func, "id", "") in ("sorted", "len")
+                self.assertTrue(named or isinstance(parent, ast.Compare), place)
+
+    def test_kinds_of_values(self):
+        """L8: type(x) stands beside a class alone."""
+        for place, parent, node in parents(ast.Call):
+            if getattr(node.func, "id", "") == "type":
+                self.assertTrue(isinstance(parent, ast.Compare) and parent.left is node, place)
 
     def test_no_calls_within_calls(self):
         """[0.3]: no function calls itself, as things may be deeper than calls can go."""
