@@ -10,6 +10,11 @@ def early(table, wish):
     """The choice that is the same for all that the wish may become, or None."""
     check_clear(table)
     check_wish(table, wish)
+    return choice_ahead(table, wish)
+
+
+def choice_ahead(table, wish):
+    """The early choice of a wish of a clear table, or None."""
     chosen = chosen_becoming(table, wish)
     first = chosen[0][2]
     if all([case[2] == first for case in chosen]):

@@ -1,4 +1,4 @@
-"""The parts of bundles, one by one: bundles may be deeper than calls within calls can go."""
+"""The parts of bundles and terms, one by one: bundles may be deeper than calls within calls can go."""
 
 
 def all_parts(bundle):
@@ -25,10 +25,10 @@ def built(parts, filling):
 
 
 def things_within(part):
-    """The things right within a part, from the first one on."""
-    if type(part) is tuple and part[0] not in ("?", "~"):
-        return part[1:]
-    return ()
+    """The things right within a part, from the first one on: those of a call are its terms."""
+    if type(part) is not tuple or part[0] in ("?", "~"):
+        return ()
+    return part[2] if part[0] == "!" else part[1:]
 
 
 def is_open(part):
@@ -38,15 +38,19 @@ def is_open(part):
 
 def root(part):
     """What a part is but for the things within it: parts are equal if their roots and these things are."""
-    if type(part) is tuple and part[0] not in ("?", "~"):
-        return (part[0], len(part) - 1)
-    return part
+    if type(part) is not tuple or part[0] in ("?", "~"):
+        return part
+    if part[0] == "!":
+        return ("!", part[1], len(part[2]))
+    return (part[0], len(part) - 1)
 
 
 def headed(part, things):
-    """The open thing of the root of a part with these things within it."""
+    """The open thing or term of the root of a part with these things within it."""
     if len(things) == 0:
         return part
+    if part[0] == "!":
+        return ("!", part[1], tuple(things))
     return (part[0], *things)
 
 

@@ -44,12 +44,7 @@ def are_many(book, sorts, rows):
 def meeting(table, use, facts):
     """The lot of the rows that meet a use by facts."""
     check_asked(table, use, facts)
-    told = []
-    for k, (_, patterns, demand) in enumerate(table.rows):
-        found = matched(patterns, use)
-        if found is not None and holds(demand, found, facts):
-            told.append(k)
-    return tuple(told)
+    return tuple(rows_met(table.rows, use, facts))
 
 
 def nearest(table, use, facts):
@@ -62,6 +57,16 @@ def nearer(table, one, other):
     if not is_row_number(table.rows, one) or not is_row_number(table.rows, other):
         raise NoRow()
     return is_nearer(table.rows[one], table.rows[other])
+
+
+def rows_met(rows, use, facts):
+    """The list of the numbers of the rows that meet a use by facts."""
+    told = []
+    for k, (_, patterns, demand) in enumerate(rows):
+        found = matched(patterns, use)
+        if found is not None and holds(demand, found, facts):
+            told.append(k)
+    return told
 
 
 def nearest_rows(table, lot):

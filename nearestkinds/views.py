@@ -2,12 +2,12 @@
 
 from nearestkinds.clear import unclear
 from nearestkinds.demands import holds
-from nearestkinds.errors import NoLot, NotClear, NoWish, TooMany
+from nearestkinds.errors import NoLot, NotClear, NoWish
 from nearestkinds.patterns import matched
 from nearestkinds.rows import is_asker, is_row_number, least, nearness_of_all
 from nearestkinds.tables import is_asked, meeting, nearest_rows
 from nearestkinds.things import MOST_UNKNOWNS, is_tuple
-from nearestkinds.ways import MOST_CASES, askers, in_order, meets_by_text, met_cases
+from nearestkinds.ways import askers, meets_of_wish, met_cases
 
 
 def is_wish(table, thing):
@@ -55,12 +55,7 @@ def become(table, wish):
     """The list of the cases of what the wish may become: triples of the use, the facts, and the lot of the rows met."""
     # The wish asks like one row more, and what it may become is what would meet this row.
     asking, last = askers(table.rows) + [wish], len(table.rows)
-    try:
-        bundles = in_order(meets_by_text(wish[0], table.rows, MOST_CASES))
-    except TooMany:
-        # A meet of more than 200 parts is told as too many cases are.
-        raise TooMany(MOST_CASES) from None
-    told = met_cases(table.book, table.sorts, asking, bundles)
+    told = met_cases(table.book, table.sorts, asking, meets_of_wish(wish[0], table.rows))
     return [(use, facts, lot[:-1]) for use, facts, lot in told if last in lot]
 
 

@@ -45,6 +45,15 @@ def in_order(found):
     return [found[text] for text in sorted(found)]
 
 
+def meets_of_wish(bundle, rows):
+    """The list of the meets of a wish's bundle with the patterns of some rows, of none too, ascending by texts."""
+    try:
+        return in_order(meets_by_text(bundle, rows, MOST_CASES))
+    except TooMany:
+        # A meet of more than 200 parts is told as too many cases are.
+        raise TooMany(MOST_CASES) from None
+
+
 def row_cases(book, sorts, rows):
     """The cases of a table with these rows, as met_cases tells them."""
     bundles = in_order(meets_by_text(unknown_use(sorts), rows, MOST_MEETS))

@@ -1,4 +1,4 @@
-"""The texts of bundles: like bundles that are plain have one text, unlike ones have unlike texts."""
+"""The texts of bundles and terms: like bundles that are plain have one text, unlike ones have unlike texts."""
 
 from nearestkinds.parts import all_parts, taken, things_within
 
@@ -18,4 +18,5 @@ def part_text(part, texts):
         return str(part)
     if part[0] in ("?", "~"):
         return part[0] + str(part[1])
-    return part[0] + "(" + ",".join(texts) + ")"
+    first = "!" + part[1] if part[0] == "!" else part[0]
+    return first + "(" + ",".join(texts) + ")"

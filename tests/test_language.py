@@ -160,6 +160,14 @@ class LanguageTest(unittest.TestCase):
             told |= {each.name for each in TREES[path].body if isinstance(each, ast.ClassDef)}
             self.assertEqual(used & told, set(), place)
 
+    def test_stars(self):
+        """L7: in calls a star stands ahead of a name alone, and behind it names and plain values."""
+        for place, _, node in walk(ast.Call):
+            starred = [k for k, each in enumerate(node.args) if isinstance(each, ast.Starred)]
+            for each in node.args[starred[0]:] if starred else []:
+                inner = each.value if isinstance(each, ast.Starred) else each
+                self.assertIsInstance(inner, (ast.Name, ast.Attribute, ast.Constant), place)
+
     def test_methods(self):
         """L25: just the methods that are let, and own ones."""
         for place, _, node in walk(ast.Call):
