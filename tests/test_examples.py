@@ -9,6 +9,7 @@ from nearestkinds.demands import neat
 from nearestkinds.early import early
 from nearestkinds.patterns import common, meet
 from nearestkinds.tables import Table, meeting, nearest
+from nearestkinds.texts import bundle_text
 from nearestkinds.things import Book
 from nearestkinds.views import view
 
@@ -42,6 +43,8 @@ class ExamplesTest(unittest.TestCase):
         demand = ("both", ("claim", "small", 1), ("either", ("claim", "small", 0), ("claim", "small", 1)))
         self.assertEqual(neat(demand), ((("small", 1),),))
 
+    def test_e07(self):
+        self.assertEqual(bundle_text((("ptr", ("?", 0)), ("int",))), "ptr(?0);int()")
 
 
 class ReadmeTest(unittest.TestCase):
