@@ -19,7 +19,9 @@ def matched(bundle, other):
     while todo:
         part, thing = todo.pop()
         if is_open(part):
-            if not are_same(found.setdefault(part[1], thing), thing):
+            if part[1] not in found:
+                found[part[1]] = thing
+            elif not are_same(found[part[1]], thing):
                 return None
         elif root(part) != root(thing):
             return None

@@ -21,9 +21,13 @@ class Work:
         self.filling = filling
         self.todo = [(False, body)]
         self.done = []
+        self.wanted = None
 
     def reckon(self, worths):
-        """Reckons on until a call's worth is not known: the pair of its family and use, or None at the end."""
+        """Reckons on until a call's worth is not known: the pair of its key and its use, or None at the end."""
+        if self.wanted is not None:
+            self.done.append(worths[self.wanted])
+            self.wanted = None
         while self.todo:
             behind, term = self.todo.pop()
             if not behind:
@@ -32,9 +36,8 @@ class Work:
                 use = tuple(taken(self.done, len(term[2]))[::-1])
                 key = key_of(term[1], use)
                 if key not in worths:
-                    self.done.extend(use)
-                    self.todo.append((True, term))
-                    return (term[1], use)
+                    self.wanted = key
+                    return (key, use)
                 self.done.append(worths[key])
             elif is_less(term):
                 other, one = self.done.pop(), self.done.pop()
@@ -84,7 +87,7 @@ class Reckoner:
 
     def reckon_all(self, family, use, most):
         """Reckons a use, and for this all uses that are asked, at most so many unlike ones."""
-        works = [self.asked_anew(family, use, most)]
+        works = [self.asked_anew(key_of(family, use), use, most)]
         while works:
             key, work = works[-1]
             wanted = work.reckon(self.worths)
@@ -94,9 +97,9 @@ class Reckoner:
                 self.worths[key] = work.outcome()
                 works.pop()
 
-    def asked_anew(self, family, use, most):
+    def asked_anew(self, key, use, most):
         """The key and the work of a use that is asked and whose worth is not known."""
-        key = key_of(family, use)
+        family = key[0]
         if key in self.asked:
             raise NeedsItself(family, use)
         if len(self.asked) == most:
