@@ -2,10 +2,10 @@
 
 from nearestkinds.lessening import EarlyRows, check_all_clear
 from nearestkinds.measures import call_measures, put, unknowns_of, weight_names
-from nearestkinds.parts import all_parts, things_within
+from nearestkinds.parts import all_parts
 from nearestkinds.patterns import filled, matched
 from nearestkinds.simplex import settled
-from nearestkinds.terms import is_call, is_less, is_plain
+from nearestkinds.terms import is_call, is_plain, terms_ahead
 from nearestkinds.things import is_integer, is_tuple, is_word
 from nearestkinds.views import is_wish
 
@@ -151,6 +151,5 @@ def calls_reached(body):
         part = todo.pop()
         if is_call(part):
             told.append(part)
-        inner = things_within(part)
-        todo.extend((inner[:2] if is_less(part) else inner)[::-1])
+        todo.extend(terms_ahead(part)[::-1])
     return told

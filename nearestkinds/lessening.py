@@ -2,10 +2,10 @@
 
 from nearestkinds.early import choice_ahead
 from nearestkinds.errors import NoTerm, TooMany
-from nearestkinds.parts import all_parts, built, headed, is_open, taken, things_within
+from nearestkinds.parts import all_parts, built, headed, is_open, taken
 from nearestkinds.patterns import matched
 from nearestkinds.programs import check_many, signatures_of
-from nearestkinds.terms import is_arithmetic, is_call, is_less, made, reckoned_sum, sorts_in_term
+from nearestkinds.terms import is_arithmetic, is_call, is_less, made, reckoned_sum, sorts_in_term, terms_ahead
 from nearestkinds.things import is_integer
 from nearestkinds.views import check_clear, is_wish
 from nearestkinds.writing import written
@@ -84,25 +84,24 @@ class Lessening:
         return self.done[0]
 
     def begin(self, term, filling):
-        """Begins a term: it is done once the terms within it are, of LESS the first two."""
-        inner = things_within(term)
+        """Begins a term: it is done once those that are lessened ahead of it are."""
+        ahead = terms_ahead(term)
         if is_open(term):
             self.done.append(filling.get(term[1], term))
-        elif len(inner) == 0:
+        elif len(ahead) == 0:
             self.done.append(term)
         else:
             self.todo.append((True, term, filling))
-            self.todo.extend([(False, part, filling) for part in (inner[:2] if is_less(term) else inner)[::-1]])
+            self.todo.extend([(False, part, filling) for part in ahead[::-1]])
 
     def end(self, term, filling):
-        """Ends a term, the terms within it being done: it gives way, or it stays."""
-        inner = things_within(term)
-        things = taken(self.done, 2 if is_less(term) else len(inner))[::-1]
+        """Ends a term, those ahead of it being done: it gives way, or it stays."""
+        things = taken(self.done, len(terms_ahead(term)))[::-1]
         if is_call(term):
             self.end_call(term, tuple(things))
         elif not (is_less(term) or is_arithmetic(term)) or not all([is_integer(thing) for thing in things]):
             # Nothing is done in the last two terms of a LESS that stays, but for the filling.
-            rest = built(all_parts(inner[2:]), filling) if is_less(term) else ()
+            rest = built(all_parts(term[3:]), filling) if is_less(term) else ()
             self.done.append(made(headed(term, [*things, *rest])))
         elif is_less(term):
             self.todo.append((False, term[3] if things[0] < things[1] else term[4], filling))

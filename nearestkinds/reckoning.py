@@ -5,7 +5,7 @@ from nearestkinds.parts import headed, is_open, taken, things_within
 from nearestkinds.patterns import matched
 from nearestkinds.rows import least, nearness_of_all
 from nearestkinds.tables import rows_met
-from nearestkinds.terms import is_call, is_less, is_arithmetic, made, reckoned_sum
+from nearestkinds.terms import is_arithmetic, is_call, is_less, made, reckoned_sum, terms_ahead
 from nearestkinds.writing import written
 
 
@@ -48,15 +48,15 @@ class Work:
         return None
 
     def begin(self, term):
-        """Begins a term: it is done once the terms within it are, of LESS the first two."""
-        inner = things_within(term)
+        """Begins a term: it is done once those that are reckoned ahead of it are."""
+        ahead = terms_ahead(term)
         if is_open(term):
             self.done.append(self.filling[term[1]])
-        elif len(inner) == 0:
+        elif len(ahead) == 0:
             self.done.append(term)
         else:
             self.todo.append((True, term))
-            self.todo.extend([(False, part) for part in (inner[:2] if is_less(term) else inner)[::-1]])
+            self.todo.extend([(False, part) for part in ahead[::-1]])
 
     def outcome(self):
         """What the body has come to."""

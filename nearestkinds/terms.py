@@ -1,7 +1,7 @@
 """Terms, of which the bodies of rows are made, and what their sums come to."""
 
 from nearestkinds.errors import TooGreat
-from nearestkinds.parts import all_parts, depth
+from nearestkinds.parts import all_parts, depth, things_within
 from nearestkinds.things import is_integer, is_tuple, is_unknown, is_word
 
 MOST_DEEP = 10
@@ -89,6 +89,12 @@ def is_less(term):
 def is_plain(term):
     """Whether there is nothing to be reckoned right at a term."""
     return not is_call(term) and not is_arithmetic(term) and not is_less(term)
+
+
+def terms_ahead(term):
+    """The terms right within a term that are reckoned ahead of it: of LESS the first two alone."""
+    inner = things_within(term)
+    return inner[:2] if is_less(term) else inner
 
 
 def calls_in(term):

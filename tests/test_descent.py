@@ -11,11 +11,9 @@ from nearestkinds.tables import Table
 from tests.great import SORTS_OF_CASES, cases_2000
 from tests.samples import STRANGE, chain, is_instance, shallow, wide
 from tests.slow import (A, B, C, DESK, INT, KIND, claim, match, new, other_things, pair, ptr, some_use, sorts_within,
-                        table,
-                        tri)
+                        table, tri)
 from tests.slow_programs import (SlowReckoner, Stop, call, family, less, minus, parts_of, plus, program, put_for,
-                                 some_program,
-                                 some_term)
+                                 some_program, some_term)
 
 NUMBER = ("number",)
 TWO = ("kind", "kind")

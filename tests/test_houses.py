@@ -4,8 +4,8 @@ import random
 import unittest
 
 from nearestkinds.errors import (BadProgram, BadTable, BadText, Kept, KindError, NeedsItself, NoFacts, NoLine, NoName,
-                                 NotClear,
-                                 NothingDone, NoText, NotRooted, NoUse, NoWish, TooGreat, TooMany, Unclear, Unmet)
+                                 NotClear, NothingDone, NoText, NotRooted, NoUse, NoWish, TooGreat, TooMany, Unclear,
+                                 Unmet)
 from nearestkinds.houses import House, recovered
 from nearestkinds.programs import Program
 from nearestkinds.texts import program_text

@@ -4,8 +4,7 @@ import inspect
 import unittest
 
 from nearestkinds import (alike, cases, clear, demands, descent, early, ends, houses, lessening, patterns, programs,
-                          tables,
-                          texts, things, trees, views)
+                          tables, texts, things, trees, views)
 
 INTERFACE = {
     things: {"Book": ["lists", "heads", "claims"], "is_bundle": ["book", "sorts", "thing"],

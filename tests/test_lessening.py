@@ -10,10 +10,9 @@ from nearestkinds.programs import Program
 from nearestkinds.tables import Table
 from tests.great import SORTS_OF_CASES, cases_2000
 from tests.samples import STRANGE, chain, shallow, wide
-from tests.slow import A, B, C, DESK, INT, KIND, claim, either, match, new, other_things, pair, ptr, table, tri
+from tests.slow import A, B, C, DESK, INT, KIND, claim, match, new, other_things, pair, ptr, tri
 from tests.slow_programs import (SIGNS, SlowReckoner, Stop, call, count_of, depth_of, family, less, minus, parts_of,
-                                 plus,
-                                 program, put_for, signatures_of, some_program, some_term, times)
+                                 plus, program, put_for, signatures_of, some_program, some_term, times)
 
 NUMBER = ("number",)
 TWO = ("kind", "kind")

@@ -4,8 +4,7 @@ import random
 import unittest
 
 from nearestkinds.errors import (BadProgram, KindError, NeedsItself, NoFacts, NoFamily, NoMany, NoUse, TooGreat,
-                                 TooMany,
-                                 Unclear, Unmet)
+                                 TooMany, Unclear, Unmet)
 from nearestkinds.programs import Program, is_record, record, uses, worth
 from nearestkinds.tables import Table
 from nearestkinds.things import Book

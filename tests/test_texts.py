@@ -13,8 +13,7 @@ from nearestkinds.things import Book
 from tests.samples import STRANGE, chain, shallow
 from tests.slow import A, B, DESK, INT, KIND, both, claim, either, new, pair, ptr, table, tri
 from tests.slow_programs import (call, family, less, minus, plus, program, put_for, some_program, some_term,
-                                 term_written,
-                                 times)
+                                 term_written, times)
 from tests.slow_roots import some_garden
 from tests.slow_texts import (demand_written, first_wrong, first_wrong_line, of_bundle, of_demand, of_term,
                               program_written)

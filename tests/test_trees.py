@@ -11,7 +11,7 @@ from tests.great import PARTS_200, PARTS_201, SORTS_OF_CASES, cases_2000
 from tests.samples import STRANGE, chain, shallow, slow_meet
 from tests.slow import (A, B, C, DESK, INT, KIND, SORTS, all_cases, both, claim, either, is_pair, kinds_within, new,
                         other_things, pair, ptr, slow_cases, slow_choice, slow_meets, some_clear, some_facts, some_use,
-                        table, text, top, tri)
+                        table, top, tri)
 
 TWO = ("kind", "kind")
 NONE = ("none",)
